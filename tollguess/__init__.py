@@ -1,0 +1,1 @@
+"""Tollguess: what a car owes by the gates that saw it."""
