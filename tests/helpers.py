@@ -1,10 +1,12 @@
-"""Nets for the tests, and slow, plain ways to tell what the drives of a gate reach."""
+"""Nets and watches for the tests, and slow, plain ways to tell what drives and ways there are."""
 
 import random
 
 from tollguess.nets import Net
+from tollguess.watches import Watch
 
 MILLION = 1000000
+LAST = 1000000000
 
 
 def build(gates, roads):
@@ -31,6 +33,20 @@ def snapshot(net):
     """All that a net tells of itself."""
     gates = net.gates()
     return gates, net.roads(), [net.leaving(name) for name, sees in gates]
+
+
+def watch_of(net, *rows):
+    """A watch of a net, with sightings (car, gate, time) that are all new."""
+    watch = Watch(net)
+    for row in rows:
+        if not watch.saw(*row):
+            raise AssertionError(f"{row} is known")
+    return watch
+
+
+def kept(watch):
+    """All sightings that a watch tells: pairs (car, sightings)."""
+    return [(car, watch.seen(car)) for car in watch.cars()]
 
 
 def drawn_net(seed, gates, roads, minutes, toll):
@@ -128,3 +144,60 @@ def drive_faults(net, gate, end, minutes, toll, numbers):
     if (at, spent, cost) != (end, minutes, toll):
         faults.append(f"{(at, spent, cost)} is not {(end, minutes, toll)}")
     return faults
+
+
+def all_ways(net, seen):
+    """All ways that fit the sightings: pairs (toll, roads)."""
+    ways = [(0, [])]
+    for (time, gate), (later, other) in zip(seen, seen[1:]):
+        drives = [drive for drive in all_drives(net, gate, later - time) if drive[0] == other]
+        ways = [
+            (toll + drive[2], roads + drive[3]) for toll, roads in ways for drive in drives]
+    return ways
+
+
+def first_apart(net, seen):
+    """The place of the first sighting that no drive joins with the next one, or None."""
+    for place in range(len(seen) - 1):
+        if not all_ways(net, seen[place:place + 2]):
+            return place
+    return None
+
+
+def passed_lists(net, seen, roads):
+    """The lists of gates passed that roads make, one for each way to part them into drives."""
+    time, gate = seen[0]
+    if len(seen) == 1:
+        return [] if roads else [[(gate, time)]]
+    lists = []
+    for cut in range(1, len(roads) + 1):
+        ahead = leg_passed(net, seen[0], seen[1], roads[:cut])
+        if ahead is not None:
+            lists += [ahead + rest for rest in passed_lists(net, seen[1:], roads[cut:])]
+    return lists
+
+
+def leg_passed(net, sighting, following, numbers):
+    """The gates passed by a drive from one sighting to just ahead of the next, or None."""
+    (time, gate), (later, other) = sighting, following
+    rows = [net.roads()[number] for number in numbers]
+    minutes = sum(row[2] for row in rows)
+    toll = sum(row[3] for row in rows)
+    if minutes > later - time or drive_faults(net, gate, other, minutes, toll, numbers):
+        return None
+    passed = [(gate, time)]
+    for row in rows[:-1]:
+        passed.append((row[1], passed[-1][1] + row[2]))
+    return passed
+
+
+def drawn_sightings(net, seed, many, longest):
+    """Sightings drawn by a seed: at any of the gates, rising by time from 0 or later."""
+    draw = random.Random(seed)
+    names = [name for name, sees in net.gates()]
+    time = draw.randint(0, 5)
+    seen = []
+    for _ in range(many):
+        seen.append((time, draw.choice(names)))
+        time += draw.randint(0, longest)
+    return seen

@@ -10,6 +10,10 @@ FUNCTIONS = {
     ("tollguess.reach", "least"): ["rows", "name"],
     ("tollguess.reach", "roads_to"): ["rows", "place"],
     ("tollguess.legs", "leg"): ["net", "one", "other", "limit"],
+    ("tollguess.guesses", "guess"): ["net", "seen"],
+    ("tollguess.bills", "bill"): ["watch"],
+    ("tollguess.bills", "total"): ["watch"],
+    ("tollguess.plays", "play"): ["text"],
 }
 NET_METHODS = {
     "gate": ["name", "sees"],
@@ -21,6 +25,12 @@ NET_METHODS = {
     "gates": [],
     "roads": [],
     "leaving": ["name"],
+}
+WATCH_METHODS = {
+    "saw": ["car", "gate", "time"],
+    "seen": ["car"],
+    "cars": [],
+    "forget": ["car"],
 }
 
 
@@ -34,15 +44,21 @@ class Interface(unittest.TestCase):
                 self.assertEqual(function.__module__, module)
                 self.assertEqual(list(inspect.signature(function).parameters), arguments)
 
-    def test_a_net_has_each_method_itself(self):
-        net_class = importlib.import_module("tollguess.nets").Net
-        self.assertEqual(net_class.__module__, "tollguess.nets")
-        self.assertEqual(list(inspect.signature(net_class).parameters), [])
-        for name, arguments in NET_METHODS.items():
-            with self.subTest(name=name):
-                method = net_class.__dict__[name]
+    def check_class(self, module, name, arguments, methods):
+        found = getattr(importlib.import_module(module), name)
+        self.assertEqual(found.__module__, module)
+        self.assertEqual(list(inspect.signature(found).parameters), arguments)
+        for word, told in methods.items():
+            with self.subTest(name=word):
+                method = found.__dict__[word]
                 self.assertTrue(inspect.isfunction(method))
-                self.assertEqual(list(inspect.signature(method).parameters)[1:], arguments)
+                self.assertEqual(list(inspect.signature(method).parameters)[1:], told)
+
+    def test_a_net_has_each_method_itself(self):
+        self.check_class("tollguess.nets", "Net", [], NET_METHODS)
+
+    def test_a_watch_has_each_method_itself(self):
+        self.check_class("tollguess.watches", "Watch", ["net"], WATCH_METHODS)
 
 
 if __name__ == "__main__":
